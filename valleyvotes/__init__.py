@@ -1,0 +1,1 @@
+"""A valley of villages: its votes, its school, its bus and its posts."""
