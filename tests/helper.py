@@ -6,17 +6,23 @@ the bus is driven, sets are tried by size), so that a fault is not made twice in
 
 import itertools
 import random
+from fractions import Fraction
 
 from valleyvotes.valley import answers
 
 NUMBERS = {
     "start": 0, "village": 1, "many": 2, "road": 3, "elect": 4, "school": 5, "bus": 6, "post": 7, "posts": 8,
     "chosen": 9, "unbeaten": 10, "rather": 11, "ways": 12, "best": 13, "lie": 14, "move": 15, "round": 16,
+    "from": 17, "stop": 18, "pays": 19, "saves": 20, "mean": 21, "joins": 22, "far": 23, "farthest": 24, "fewest": 25,
+    "with": 26, "within": 27, "near": 28, "look": 29, "sums": 30, "back": 31, "again": 32, "state": 33,
 }
 TAKES = {
     "start": 1, "village": 3, "many": 2, "road": 2, "elect": 0, "school": 1, "bus": 2, "post": 2, "posts": 1,
     "chosen": 0, "unbeaten": 0, "rather": 2, "ways": 1, "best": 0, "lie": 2, "move": 2, "round": 0,
+    "from": 1, "stop": 1, "pays": 1, "saves": 1, "mean": 1, "joins": 1, "far": 1, "farthest": 0, "fewest": 1,
+    "with": 1, "within": 1, "near": 0, "look": 1, "sums": 0, "back": 0, "again": 0, "state": 0,
 }
+CHANGES = ("village", "many", "road", "move", "elect", "school", "bus", "post", "posts")
 BIGGEST = 4294967295
 
 
@@ -26,6 +32,8 @@ def flat(calls):
     for call in calls:
         assert len(call) == 1 + TAKES[call[0]], call
         numbers += [NUMBERS[call[0]], *call[1:]]
+    # No more is ever handed in.
+    assert len(calls) <= 1000 and len(numbers) <= 4100
     return numbers
 
 
@@ -54,10 +62,15 @@ def last(*calls):
     return ask(*calls)[-1]
 
 
+def tell(villages):
+    """Calls whose answers tell a valley of so many villages whole, and change nothing."""
+    return [("state",), ("sums",)] + [("look", v) for v in range(villages + 1)]
+
+
 def probe(villages):
-    """Calls whose answers tell a valley of so many villages whole: who rides, posts, school, children, roads, ways."""
+    """Calls whose answers tell a valley of so many villages whole, by what they tell and by what they change."""
     every = range(villages)
-    calls = [("round",), ("chosen",), ("unbeaten",), ("best",)]
+    calls = tell(villages) + [("round",), ("chosen",), ("unbeaten",), ("best",)]
     calls += [("bus", v, 1) for v in every] + [("post", v, 1) for v in every]
     # Where the school was is told by the first of these that moves it.
     calls += [("school", v) for v in every]
@@ -106,9 +119,45 @@ class Plain:
     def __init__(self):
         self.children, self.up, self.road, self.walked = [], {}, {}, {}
         self.at, self.riders, self.posted = 0, set(), set()
+        self.taken_back, self.can_back = [], []
 
     def call(self, name, *numbers):
-        return getattr(self, "vw_" + name)(*numbers)
+        before = self.standing()
+        told = getattr(self, "vw_" + name)(*numbers)
+        if name in CHANGES and told[0] >= 0:
+            self.can_back.append(before)
+            self.can_back = self.can_back[-20:]
+            self.taken_back = []
+        return told
+
+    # Taking back and doing again.
+
+    def standing(self):
+        """All that changes can change, by values that nothing changes."""
+        return (tuple(self.children), tuple(self.up.items()), tuple(self.road.items()), self.at,
+                frozenset(self.riders), frozenset(self.posted))
+
+    def stand(self, standing):
+        self.children, self.up, self.road = list(standing[0]), dict(standing[1]), dict(standing[2])
+        self.at, self.riders, self.posted = standing[3], set(standing[4]), set(standing[5])
+        self.walked = {}
+
+    def vw_back(self):
+        if not self.can_back:
+            return [-2]
+        self.taken_back.append(self.standing())
+        self.stand(self.can_back.pop())
+        return [len(self.can_back)]
+
+    def vw_again(self):
+        if not self.taken_back:
+            return [-2]
+        self.can_back.append(self.standing())
+        self.stand(self.taken_back.pop())
+        return [len(self.taken_back)]
+
+    def vw_state(self):
+        return [len(self.children), len(self.can_back), len(self.taken_back)]
 
     # The valley.
 
@@ -184,6 +233,21 @@ class Plain:
     def round_length(self, school, riders):
         stops = self.round(school, riders)
         return sum(self.one_road(a, b) for a, b in zip(stops, stops[1:]))
+
+    def roads_of(self, v):
+        """The roads on the way between v and the school."""
+        walked = self.way(v, self.at)
+        return [frozenset(step) for step in zip(walked, walked[1:])]
+
+    def pays(self, v, riders):
+        """What v pays if these ride."""
+        paid = Fraction(0)
+        for road in self.roads_of(v):
+            paid += Fraction(2 * self.one_road(*road), sum(road in self.roads_of(u) for u in riders))
+        return paid
+
+    def adds(self, v, before):
+        return self.round_length(self.at, {*before, v}) - self.round_length(self.at, before)
 
     def serve_all(self, posts, r):
         return all(any(self.far(v, p) <= r for p in posts) for v in self.villages())
@@ -335,6 +399,83 @@ class Plain:
 
     def vw_round(self):
         return [self.round_length(self.at, self.riders), len(self.riders)]
+
+    def vw_from(self, a):
+        return [-2] if self.missing(a) else [self.round_length(a, self.riders)]
+
+    def vw_stop(self, k):
+        stops = self.round(self.at, self.riders)
+        if k not in range(len(stops)):
+            return [-33]
+        return [stops[k], sum(self.one_road(a, b) for a, b in zip(stops[:k], stops[1:]))]
+
+    def fraction(self, number):
+        return [number.numerator, number.denominator]
+
+    def vw_pays(self, v):
+        if self.missing(v):
+            return [-2]
+        if v not in self.riders:
+            return [-16]
+        return self.fraction(self.pays(v, self.riders))
+
+    def vw_saves(self, w):
+        group = [v for v in range(32) if w & 2 ** v]
+        if self.missing(*group):
+            return [-22]
+        if not set(group) <= self.riders:
+            return [-16]
+        return self.fraction(self.round_length(self.at, group) - sum(self.pays(v, self.riders) for v in group))
+
+    def vw_mean(self, v):
+        if self.missing(v):
+            return [-2]
+        if v not in self.riders:
+            return [-16]
+        if len(self.riders) > 5:
+            return [-28]
+        orders = [*itertools.permutations(self.riders)]
+        return [sum(self.adds(v, order[:order.index(v)]) for order in orders), len(orders)]
+
+    def vw_joins(self, v):
+        if self.missing(v):
+            return [-2]
+        if v in self.riders:
+            return [-17]
+        paid = 2520 * self.pays(v, self.riders | {v})
+        assert paid.denominator == 1
+        return [self.adds(v, self.riders), paid.numerator]
+
+    def vw_far(self, v):
+        return [-2] if self.missing(v) else [self.far(v, self.at)]
+
+    def vw_farthest(self):
+        far, v = max([(self.far(v, self.at), -v) for v in self.villages() if self.children[v]], default=(None, 0))
+        return [-6] if far is None else [-v, far]
+
+    def vw_fewest(self, r):
+        posts = self.fewest(r, [])
+        return [len(posts), self.bits(posts)]
+
+    def vw_with(self, r):
+        posts = self.fewest(r, [self.at])
+        return [len(posts), self.bits(posts)]
+
+    def vw_within(self, r):
+        left = [v for v in self.villages() if all(self.far(v, p) > r for p in self.posted)]
+        return [0 if left else 1, self.bits(left)]
+
+    def vw_near(self):
+        far, v = min([(self.far(v, self.at), v) for v in self.posted], default=(None, 0))
+        return [-6] if far is None else [v, far]
+
+    def vw_look(self, v):
+        if self.missing(v):
+            return [-2]
+        return [self.children[v], self.up.get(v, 0), self.road.get(v, 0), int(v in self.riders), int(v in self.posted)]
+
+    def vw_sums(self):
+        return [sum(self.children), self.at, self.bits(self.riders), self.bits(self.posted)]
 
 
 def model_after(calls):

@@ -66,6 +66,9 @@ class Refused(unittest.TestCase):
             (("post", 4, 1), -2), (("post", 1, 2), -22), (("post", 3, 1), -17), (("post", 1, 0), -17),
             (("rather", 4, 0), -2), (("rather", 0, 4), -2), (("ways", 4), -2),
             (("lie", 4, 0), -2), (("lie", 0, 4), -2), (("lie", 3, 0), -6),
+            (("from", 4), -2), (("stop", 7), -33), (("pays", 4), -2), (("pays", 0), -16), (("saves", 16), -22),
+            (("saves", 1), -16), (("mean", 4), -2), (("mean", 0), -16), (("joins", 4), -2), (("joins", 2), -17),
+            (("far", 4), -2), (("look", 4), -2), (("again",), -2),
         ]
         for refused, answer in refusals:
             self.left_as_it_was(FURNISHED, refused, answer, 4)
@@ -76,11 +79,18 @@ class Refused(unittest.TestCase):
         empty = [("start", 0), ("village", 0, 4, 0), ("school", 1), ("post", 0, 1)]
         self.left_as_it_was(empty, ("elect",), -6, 2)
         self.left_as_it_was(empty, ("chosen",), -6, 2)
+        self.left_as_it_was(empty, ("farthest",), -6, 2)
+        self.left_as_it_was([("start", 3), ("village", 0, 4, 1), ("bus", 1, 1)], ("near",), -6, 2)
+        self.left_as_it_was([("start", 3)], ("back",), -2, 1)
+        riding = [("start", 1)] + [("village", 0, 2, 3)] * 9 + [("bus", v, 1) for v in range(6)]
+        self.left_as_it_was(riding, ("mean", 5), -28, 10)
         full = [("start", 1)] + [("village", 0, 2, 3)] * 9
         self.left_as_it_was(full, ("village", 9, 1000, 100), -28, 10)
 
     def test_asking_changes_nothing(self):
-        asks = [("chosen",), ("unbeaten",), ("rather", 0, 2), ("ways", 2), ("best",), ("lie", 2, 0), ("round",)]
+        asks = [("chosen",), ("unbeaten",), ("rather", 0, 2), ("ways", 2), ("best",), ("lie", 2, 0), ("round",),
+                ("from", 2), ("stop", 2), ("pays", 2), ("saves", 12), ("mean", 3), ("joins", 0), ("far", 2),
+                ("farthest",), ("fewest", 2), ("with", 2), ("within", 2), ("near",), ("look", 2), ("sums",), ("state",)]
         for call in asks:
             told = ask(*FURNISHED, call, *probe(4))
             self.assertGreaterEqual(told[len(FURNISHED)][0], 0)
@@ -90,7 +100,8 @@ class Refused(unittest.TestCase):
         for v in (4, 5, 10, 31, 32, 64, 2 ** 31, BIGGEST):
             for call in (("village", v, 0, 101), ("village", v, BIGGEST, BIGGEST), ("many", v, BIGGEST), ("road", v, 0),
                          ("move", v, v), ("move", 3, v), ("school", v), ("bus", v, BIGGEST), ("post", v, 2),
-                         ("rather", v, v), ("ways", v), ("lie", 3, v), ("lie", v, 3)):
+                         ("rather", v, v), ("ways", v), ("lie", 3, v), ("lie", v, 3), ("from", v), ("pays", v),
+                         ("mean", v), ("joins", v), ("far", v), ("look", v)):
                 self.assertEqual(last(*FURNISHED, call), [-2], call)
 
 

@@ -30,3 +30,13 @@ def size(group):
         rest = rest & (rest - 1)
         count += 1
     return count
+
+
+def members(group):
+    """The villages of the set, the lesser number first."""
+    return [v for v in range(group.bit_length()) if holds(group, v)]
+
+
+def subsets(group):
+    """All sets of villages of this one, the empty one and itself with them."""
+    return [part for part in range(group + 1) if without(part, group) == 0]

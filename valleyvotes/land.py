@@ -58,6 +58,22 @@ def is_road(far):
     return far >= SHORTEST_ROAD and far <= LONGEST_ROAD
 
 
+def road_between(v, w):
+    """The village by which the road between two beside each other is told."""
+    # An up was there before: it has the lesser number.
+    return max(v, w)
+
+
+def are_beside(valley, v, w):
+    """Whether a road joins the two villages."""
+    return v != w and valley.ups[road_between(v, w)] == min(v, w)
+
+
+def beside(valley, v):
+    """The villages beside v, the lesser number first."""
+    return [w for w in range(how_many_villages(valley)) if are_beside(valley, v, w)]
+
+
 def distances(valley):
     """How far each village is from each: a row for each one."""
     table = [[0]]

@@ -1,7 +1,7 @@
 """Which posts serve all villages."""
 
-from valleyvotes.groups import first_villages, one, size
-from valleyvotes.land import distances
+from valleyvotes.groups import first_villages, holds, members, one, size, without
+from valleyvotes.land import distances, how_many_villages
 
 
 def within(row, r):
@@ -14,15 +14,23 @@ def reaches(valley, r):
     return [within(row, r) for row in distances(valley)]
 
 
-def fewest_with_one(valley, r, v):
-    """The first of the sets with a post in v and the fewest others that serve all within r."""
+def served_by(reach, posts):
+    """The set of the villages that the posts serve, by what each village reaches."""
+    seen = 0
+    for v in members(posts):
+        seen = seen | reach[v]
+    return seen
+
+
+def fewest_with(valley, r, needed):
+    """The first of the sets that hold the needed villages and the fewest others and serve all within r."""
     reach = reaches(valley, r)
-    groups = [one(v)]
-    served = [reach[v]]
+    groups = [needed]
+    served = [served_by(reach, needed)]
     # The sets are made in the order in which the words put those alike: of two that differ first in village k,
     # the one without k stands ahead. So the greatest number is put in first, village 0 last.
     for k in range(len(reach) - 1, -1, -1):
-        if k != v:
+        if not holds(needed, k):
             groups = groups + [group | one(k) for group in groups]
             served = served + [seen | reach[k] for seen in served]
     everyone = first_villages(len(reach))
@@ -31,6 +39,17 @@ def fewest_with_one(valley, r, v):
     return min(enough, key=size)
 
 
+def fewest_posts(valley, r):
+    """The fewest posts within r."""
+    return fewest_with(valley, r, 0)
+
+
 def posts_with_schools(valley, r):
     """The posts with the school's within r."""
-    return fewest_with_one(valley, r, valley.school)
+    return fewest_with(valley, r, one(valley.school))
+
+
+def unserved(valley, r):
+    """The set of the villages that are farther than r from every post."""
+    everyone = first_villages(how_many_villages(valley))
+    return without(everyone, served_by(reaches(valley, r), valley.posts))
